@@ -1,0 +1,1 @@
+"""Grammars whose ways are tried in order; orderedways.desk answers the calls."""
