@@ -95,14 +95,14 @@ def facts_of_the_program(nodes, rules):
 
 
 def small_grammars():
-    """All grammars of three nodes and the rules 0 and 1, each of which has a node or none."""
+    """All grammars of three nodes, kind 2 left out, and the rules 0 and 1, each of which has a node or none."""
     for nodes in itertools.product(small_nodes(0), small_nodes(1), small_nodes(2)):
         for first, second in itertools.product((None, 0, 1, 2), repeat=2):
             yield nodes, [(r, e) for r, e in ((0, first), (1, second)) if e is not None]
 
 
 def small_nodes(below):
-    """Each node that may stand behind so many others, with rules 0 and 1 alone."""
+    """Each node that may stand behind so many others, with rules 0 and 1 alone, and without kind 2."""
     told = [(0, 0, 0), (1, 0, 0), (7, 0, 0), (7, 1, 0)]
     for a in range(below):
         told += [(5, a, 0), (6, a, 0)]
