@@ -1,11 +1,21 @@
 """The desk: answers a list of calls, all about one grammar that is new."""
 
-from orderedways.grammar import Grammar
+from orderedways.grammar import NO_SUCH, Grammar
+from orderedways.reading import FAILED, read_text
 from orderedways.soundness import is_sound
+from orderedways.uses import numbers_of_uses
 
 NODE_CALL = 1
 RULE_CALL = 2
 SOUND_CALL = 3
+TAKE_CALL = 4
+USES_CALL = 5
+ASKED_CALL = 6
+
+MOST_BYTES = 128
+MOST_TOLD = 12288
+
+UNSOUND = -3
 
 
 class UnknownCall(ValueError):
@@ -26,6 +36,13 @@ class Reader:
         number = self.numbers[self.place]
         self.place = self.place + 1
         return number
+
+    def read_row(self):
+        """The numbers of a row, which has how many they are before it."""
+        count = self.read_number()
+        begin = self.place
+        self.place = begin + count
+        return self.numbers[begin:self.place]
 
 
 def answers(calls):
@@ -48,6 +65,12 @@ def answer_call(grammar, reader):
         return answer_rule(grammar, reader)
     if call == SOUND_CALL:
         return [1 if is_sound(grammar) else 0]
+    if call == TAKE_CALL:
+        return answer_take(grammar, reader)
+    if call == USES_CALL:
+        return answer_uses(grammar, reader)
+    if call == ASKED_CALL:
+        return answer_asked(grammar, reader)
     raise UnknownCall(f"no such call: {call}")
 
 
@@ -62,3 +85,48 @@ def answer_rule(grammar, reader):
     rule = reader.read_number()
     number = reader.read_number()
     return [grammar.set_rule(rule, number)]
+
+
+def answer_take(grammar, reader):
+    rule = reader.read_number()
+    text = reader.read_row()
+    refused = refusal(grammar, rule, text)
+    if refused is not None:
+        return [refused]
+    return [read_text(grammar, rule, text).outcome()]
+
+
+def answer_uses(grammar, reader):
+    rule = reader.read_number()
+    most = reader.read_number()
+    text = reader.read_row()
+    refused = refusal(grammar, rule, text)
+    if refused is not None:
+        return [refused]
+    reading = read_text(grammar, rule, text)
+    if reading.outcome() == FAILED:
+        return [FAILED]
+    told = numbers_of_uses(reading)
+    return [len(told)] + first_of(told, most)
+
+
+def answer_asked(grammar, reader):
+    rule = reader.read_number()
+    text = reader.read_row()
+    refused = refusal(grammar, rule, text)
+    if refused is not None:
+        return [refused]
+    return [read_text(grammar, rule, text).count_rules_asked()]
+
+
+def refusal(grammar, rule, text):
+    """Why no text is read by the rule, or None."""
+    if not grammar.has_rule(rule) or len(text) > MOST_BYTES:
+        return NO_SUCH
+    if not is_sound(grammar):
+        return UNSOUND
+    return None
+
+
+def first_of(numbers, most):
+    return numbers[:most] if 1 <= most <= MOST_TOLD else []

@@ -36,6 +36,10 @@ class Grammar:
     def has_node(self, number):
         return 0 <= number < len(self.nodes)
 
+    def has_rule(self, rule):
+        """Whether there is such a rule, and it has a node."""
+        return is_rule(rule) and self.rules[rule] is not None
+
     def fits(self, kind, a, b):
         """Whether there is such a kind, and a and b are what it asks for."""
         if kind == NO_BYTE or kind == ANY_BYTE:

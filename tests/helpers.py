@@ -18,6 +18,18 @@ def sound():
     return [3]
 
 
+def take(r, text):
+    return [4, r, len(text), *text]
+
+
+def uses(r, most, text):
+    return [5, r, most, len(text), *text]
+
+
+def asked(r, text):
+    return [6, r, len(text), *text]
+
+
 def ask(*calls):
     """The answer of each call, as a list of its numbers; the counts are checked on the way."""
     line = [number for call in calls for number in call]
@@ -41,9 +53,21 @@ def first_numbers(*calls):
     return [answer[0] for answer in told]
 
 
-def soundness(nodes, rules=()):
-    """What sound answers of a grammar: nodes as (kind, a, b), rules as (r, e)."""
-    told = first_numbers(*[node(*each) for each in nodes], *[rule(*each) for each in rules], sound())
-    if told[:-1] != list(range(len(nodes))) + [0] * len(rules):
+def ask_of(nodes, rules, *calls):
+    """The answers of the calls on a grammar: nodes as (kind, a, b), rules as (r, e)."""
+    built = [node(*each) for each in nodes] + [rule(*each) for each in rules]
+    told = ask(*built, *calls)
+    if told[:len(built)] != [[e] for e in range(len(nodes))] + [[0]] * len(rules):
         raise AssertionError(f"a node or rule was refused: {told}")
-    return told[-1]
+    return told[len(built):]
+
+
+def check_same(given, told):
+    """As assertEqual, for long lists: their difference line by line would take minutes to find."""
+    if given != told:
+        raise AssertionError(f"{str(given)[:300]} .. is not {str(told)[:300]} ..")
+
+
+def soundness(nodes, rules=()):
+    """What sound answers of a grammar."""
+    return ask_of(nodes, rules, sound())[0][0]

@@ -31,6 +31,8 @@ METHODS = (
     "setdefault split splitlines startswith strip update upper values zfill bit_length"
 ).split()
 DUNDERS = ("__init__", "__eq__", "__repr__", "__str__", "__len__")
+WALKED = ("zip", "enumerate", "reversed", "range", "items", "keys", "values")
+WALKERS = ("list", "tuple", "dict", "sorted", "sum", "any", "all", "enumerate", "zip", "min", "max")
 WORDS = (
     r"\b(type|typing|typing_extensions|enum|Enum|IntEnum|StrEnum|Flag|IntFlag|Generic|Protocol|ABC|ABCMeta|namedtuple"
     r"|NamedTuple|TypedDict|TYPE_CHECKING|abstractmethod)\b|dataclass|overload|contextmanager"
@@ -57,15 +59,15 @@ def names_bound(tree):
 
 
 def own_methods():
-    """The names of the methods and values of the package's own classes."""
-    found = set()
-    for tree in trees():
-        for part in ast.walk(tree):
-            if isinstance(part, ast.ClassDef):
-                found |= {each.name for each in part.body if isinstance(each, ast.FunctionDef)}
-            if isinstance(part, ast.Attribute) and isinstance(part.ctx, ast.Store):
-                found.add(part.attr)
-    return found
+    """The names of the methods of the package's own classes."""
+    classes = [part for tree in trees() for part in ast.walk(tree) if isinstance(part, ast.ClassDef)]
+    return {each.name for part in classes for each in part.body if isinstance(each, ast.FunctionDef)}
+
+
+def own_values():
+    """The names of the values that the package's own objects keep."""
+    parts = [part for tree in trees() for part in ast.walk(tree) if isinstance(part, ast.Attribute)]
+    return {part.attr for part in parts if isinstance(part.ctx, ast.Store)}
 
 
 class KeepsToTheLanguage(unittest.TestCase):
@@ -125,11 +127,33 @@ class KeepsToTheLanguage(unittest.TestCase):
                     self.assertIn(part.id, OWN_NAMES)
 
     def test_methods(self):
-        free = own_methods()
+        free = own_methods() | own_values()
         for tree in trees():
             for part in ast.walk(tree):
                 if isinstance(part, ast.Attribute) and part.attr not in free:
                     self.assertIn(part.attr, METHODS)
+
+    def test_no_name_is_a_method_and_a_value(self):
+        self.assertEqual(own_methods() & own_values(), set())
+
+    def test_walked_at_once(self):
+        for tree in trees():
+            walked = [part.iter for part in ast.walk(tree) if isinstance(part, (ast.For, ast.comprehension))]
+            calls = [part for part in ast.walk(tree) if isinstance(part, ast.Call)]
+            walked += [part.args[0] for part in calls if isinstance(part.func, ast.Name)
+                       and part.func.id in WALKERS and part.args]
+            for part in calls:
+                name = getattr(part.func, "id", getattr(part.func, "attr", ""))
+                if name in WALKED:
+                    self.assertIn(part, walked, ast.dump(part))
+
+    def test_sets_are_not_kept(self):
+        for tree in trees():
+            within = [part.args[0] for part in ast.walk(tree) if isinstance(part, ast.Call)
+                      and isinstance(part.func, ast.Name) and part.func.id in ("len", "sorted") and part.args]
+            for part in ast.walk(tree):
+                if isinstance(part, ast.Call) and isinstance(part.func, ast.Name) and part.func.id == "set":
+                    self.assertIn(part, within, ast.dump(part))
 
 
 if __name__ == "__main__":
